@@ -12,17 +12,19 @@ type asker struct {
 	stack []api.Answer
 }
 
-// isPart tells whether a part of a question is valid. What its kind does not use
-// may have any value.
+// isPart tells whether a part of a question is valid. Its limit is checked whatever
+// its kind; spots and a region that its kind does not use may have any value.
 func isPart(f api.Field, p api.Part) bool {
-	limit := within(p.Limit, -api.MaxValue, api.MaxValue)
+	if !within(p.Limit, -api.MaxValue, api.MaxValue) {
+		return false
+	}
 	switch p.Kind {
 	case api.AskAbove:
-		return limit && isSpot(f, p.A)
+		return isSpot(f, p.A)
 	case api.AskMore:
-		return limit && isSpot(f, p.A) && isSpot(f, p.B)
+		return isSpot(f, p.A) && isSpot(f, p.B)
 	case api.AskRegion:
-		return limit && isRegion(f, p.Region) && isMoment(f, p.A.Moment)
+		return isRegion(f, p.Region) && isMoment(f, p.A.Moment)
 	}
 	return within(p.Kind, api.AskNot, api.AskAny)
 }

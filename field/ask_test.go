@@ -137,20 +137,57 @@ func TestAskParts(t *testing.T) {
 	for _, moment := range []int{-1, 2, math.MinInt, math.MaxInt} {
 		wrong(inRegion(moment, []int{0}, 0))
 	}
-	for _, limit := range []int64{-most - 1, most + 1, math.MinInt64, math.MaxInt64} {
-		wrong(above(in, limit))
-		wrong(more(in, in, limit))
-		wrong(inRegion(0, []int{0}, limit))
-	}
 	for _, kind := range []int{0, -1, 7, math.MinInt, math.MaxInt} {
 		wrong(api.Part{Kind: kind, A: in, B: in, Region: []int{0}})
 	}
 }
 
-// P10.6: what does not belong to the kind of a part does not matter.
+// limited returns a part of each kind, valid but for its limit.
+func limited(limit int64) []api.Part {
+	a := spot(1, 2)
+	l := []api.Part{above(a, limit), more(a, a, limit), inRegion(1, []int{0, 2}, limit)}
+	for _, kind := range []int{api.AskNot, api.AskAll, api.AskAny} {
+		l = append(l, api.Part{Kind: kind, Limit: limit})
+	}
+	return l
+}
+
+// P10.6: the limit of a part is bounded whatever its kind.
+func TestAskPartLimits(t *testing.T) {
+	s := example()
+	yes := ofAnswer(api.Yes)
+	for _, limit := range []int64{-most - 1, most + 1, -1 << 31, 1 << 31, math.MinInt64, math.MaxInt64} {
+		for _, p := range limited(limit) {
+			asks(t, "without answers", s, []api.Part{p}, api.No, api.ErrArg)
+			asks(t, "with one answer", s, []api.Part{yes, p}, api.No, api.ErrArg)
+			asks(t, "with two answers", s, []api.Part{yes, yes, p}, api.No, api.ErrArg)
+			asks(t, "before other parts", s, []api.Part{p, yes, yes, part(api.AskAll)}, api.No, api.ErrArg)
+			asks(t, "not consistent", s.with(seen(1, 2, 60, 70)), []api.Part{p}, api.No, api.ErrSum)
+			asks(t, "33 parts", s, slices.Repeat([]api.Part{p}, 33), api.No, api.ErrMany)
+		}
+	}
+	for _, x := range []struct {
+		limit int64
+		is    api.Answer
+	}{{-most, api.Yes}, {-1, api.Yes}, {most, api.No}} {
+		for i, p := range limited(x.limit) {
+			switch p.Kind {
+			case api.AskNot:
+				asks(t, i, s, []api.Part{yes, p}, api.No, api.OK)
+			case api.AskAll, api.AskAny:
+				asks(t, i, s, []api.Part{yes, yes, p}, api.Yes, api.OK)
+			default:
+				asks(t, i, s, []api.Part{p}, x.is, api.OK)
+			}
+		}
+	}
+}
+
+// P10.6: spots and regions that do not belong to the kind of a part do not matter,
+// nor does a valid limit.
 func TestAskOthers(t *testing.T) {
 	s := example()
-	others := api.Part{A: spot(-1, 9), B: spot(7, -7), Region: []int{2, 1}, Limit: math.MaxInt64}
+	others := api.Part{A: spot(-1, 9), B: spot(7, -7), Region: []int{2, 1}, Limit: most}
 	put := func(kind int) api.Part {
 		p := others
 		p.Kind = kind
